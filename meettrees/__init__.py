@@ -1,0 +1,1 @@
+"""Meettrees: one file tree on many machines that are seldom joined, whose plugs are pulled."""

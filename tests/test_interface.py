@@ -1,0 +1,60 @@
+"""The interface: each name stands in its own file, with the parameters that are told."""
+
+import importlib
+import inspect
+import unittest
+
+FUNCTIONS = {
+    "checks": {
+        "is_integer": "value", "is_within": "value least most", "are_integers": "value",
+        "is_numbers": "value many most", "is_lot": "value many", "is_name": "value",
+    },
+    "papers": {"fixed": "value"},
+    "blocks": {"is_block": "value"},
+    "images": {"images": "disk", "could_leave": "disk image", "shows_left": "disk image value"},
+    "records": {"is_row": "value", "record_blocks": "stamp number row", "record_at": "blocks at"},
+    "heads": {"head_block": "epoch half first", "read_heads": "one other"},
+    "logs": {"read_log": "blocks first", "meaning": "image"},
+    "check_logs": {"comings": "disk", "may_come": "disk rows", "shows_may_come": "disk rows value"},
+}
+CLASSES = {
+    "papers": {"Paper": "word parts", "Denial": "word parts"},
+    "disks": {"Disk": "many"},
+    "images": {"Left": "landed", "NotLeft": "at"},
+    "logs": {"Reading": "rows behind stamp", "Meaning": "epoch half first rows behind stamp", "Log": "disk"},
+    "check_logs": {"Comes": "landed", "Never": ""},
+}
+METHODS = {
+    ("disks", "Disk"): {"of": "image", "block_at": "self at", "write": "self at block", "flush": "self",
+                        "cut": "self landed", "__eq__": "self other"},
+    ("logs", "Log"): {"append": "self row", "flush": "self", "copy": "self rows", "turn": "self", "land": "self"},
+    ("papers", "Paper"): {"__eq__": "self other"},
+}
+
+
+def parameters(what):
+    """The names of the parameters of a function or a class."""
+    return list(inspect.signature(what).parameters)
+
+
+class InterfaceTest(unittest.TestCase):
+    def test_functions_and_classes(self):
+        for table, is_right in ((FUNCTIONS, inspect.isfunction), (CLASSES, inspect.isclass)):
+            for module, names in table.items():
+                for name, wanted in names.items():
+                    what = getattr(importlib.import_module("meettrees." + module), name)
+                    self.assertTrue(is_right(what), name)
+                    self.assertEqual(what.__module__, "meettrees." + module)
+                    self.assertEqual(parameters(what), wanted.split(), name)
+
+    def test_methods_stand_in_their_class(self):
+        for (module, kind), names in METHODS.items():
+            body = vars(getattr(importlib.import_module("meettrees." + module), kind))
+            for name, wanted in names.items():
+                method = body[name]
+                method = method.__func__ if isinstance(method, (staticmethod, classmethod)) else method
+                self.assertEqual(parameters(method), wanted.split(), name)
+
+
+if __name__ == "__main__":
+    unittest.main()

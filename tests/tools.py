@@ -1,0 +1,50 @@
+"""What several tests use."""
+
+import itertools
+
+from meettrees.disks import Disk
+from meettrees.errors import MeetError
+
+ODD_VALUES = (
+    None, True, False, -1, "", "a", "12", 1.5, b"", b"\x00" * 16, {}, {0: 1}, set(), object(), [None], [[]],
+    (True,), [True] * 16, [0.0] * 16, ["0"] * 16, range(16), 10 ** 999, -(10 ** 999), [10 ** 999],
+)
+
+
+def raised(call, *args, **more):
+    """The name and the fields of the MeetError that a call raises; None if it raises none."""
+    try:
+        call(*args, **more)
+    except MeetError as error:
+        return (type(error).__name__, *vars(error).values())
+    return None
+
+
+def block(*numbers):
+    """A block that begins with these numbers."""
+    return tuple(numbers) + (0,) * (16 - len(numbers))
+
+
+def disk_with(image, held):
+    """A disk with this image and these held writes."""
+    disk = Disk.of(image)
+    for at, what in held:
+        disk.write(at, what)
+    return disk
+
+
+def copy_of(disk):
+    """A second disk that is equal."""
+    return disk_with(disk.image, disk.held)
+
+
+def lots(many):
+    """All lots of numbers below many, shorter ones first, those of one length as tuples."""
+    return [lot for size in range(many + 1) for lot in itertools.combinations(range(many), size)]
+
+
+def cut_image(disk, lot):
+    """What a true cut leaves, on a disk of its own."""
+    other = copy_of(disk)
+    other.cut(lot)
+    return other.image
