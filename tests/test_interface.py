@@ -16,6 +16,20 @@ FUNCTIONS = {
     "heads": {"head_block": "epoch half first", "read_heads": "one other"},
     "logs": {"read_log": "blocks first", "meaning": "image"},
     "check_logs": {"comings": "disk", "may_come": "disk rows", "shows_may_come": "disk rows value"},
+    "codes": {"row_of": "event", "event_of": "row"},
+    "paths": {
+        "is_path": "value", "is_spot": "value", "is_value": "value", "is_above": "one other", "folder_of": "path",
+        "paths_above": "path", "path_text": "path", "path_of": "text",
+    },
+    "plain": {"is_deed": "value", "plainly": "tree deed", "changes_by": "tree deed"},
+    "deed_texts": {"deed_text": "deed", "deed_of": "text"},
+    "changes": {"is_change": "value", "do_quarrel": "one other"},
+    "heard": {"is_past": "heard one other", "changes": "heard", "change": "heard key"},
+    "quarrels": {"overruler": "heard key", "live": "heard", "quarrels": "heard", "parts": "heard"},
+    "settlings": {
+        "tree_of": "heard lot", "fills": "heard lot", "shown_lot": "heard", "shown": "heard",
+        "is_settling": "heard lot", "many_settlings": "heard", "settlings": "heard most",
+    },
 }
 CLASSES = {
     "papers": {"Paper": "word parts", "Denial": "word parts"},
@@ -23,12 +37,20 @@ CLASSES = {
     "images": {"Left": "landed", "NotLeft": "at"},
     "logs": {"Reading": "rows behind stamp", "Meaning": "epoch half first rows behind stamp", "Log": "disk"},
     "check_logs": {"Comes": "landed", "Never": ""},
+    "trees": {"Tree": "pairs"},
+    "events": {"Event": "machine number past changes"},
+    "heard": {"Heard": "machines events"},
 }
 METHODS = {
     ("disks", "Disk"): {"of": "image", "block_at": "self at", "write": "self at block", "flush": "self",
                         "cut": "self landed", "__eq__": "self other"},
     ("logs", "Log"): {"append": "self row", "flush": "self", "copy": "self rows", "turn": "self", "land": "self"},
     ("papers", "Paper"): {"__eq__": "self other"},
+    ("trees", "Tree"): {"at": "self path", "names": "self path", "of_text": "text", "__eq__": "self other",
+                        "__str__": "self"},
+    ("events", "Event"): {"__eq__": "self other"},
+    ("heard", "Heard"): {"has": "self key", "event": "self key", "with_event": "self event", "joined": "self other",
+                         "lacking": "self counts", "__eq__": "self other"},
 }
 
 

@@ -11,6 +11,13 @@ ODD_VALUES = (
 )
 
 
+class Liar:
+    """What says that it is equal to anything, but is nothing else."""
+
+    def __eq__(self, other):
+        return True
+
+
 def raised(call, *args, **more):
     """The name and the fields of the MeetError that a call raises; None if it raises none."""
     try:
@@ -48,3 +55,18 @@ def cut_image(disk, lot):
     other = copy_of(disk)
     other.cut(lot)
     return other.image
+
+
+def listed(value):
+    """The value with lists in the place of tuples, all the way in."""
+    return [listed(part) for part in value] if isinstance(value, (list, tuple)) else value
+
+
+ODD_NAMES = ("", "a" * 13, "A", "a b", "a/b", "a\n", "-", "\u00e9", None, 1, True, b"a", ["a"], ("a",))
+ODD_PATHS = ODD_VALUES + ("/a", range(2), {"a"}, {"a": 1}, ["a"] * 7) + tuple(["a", name] for name in ODD_NAMES)
+ODD_PATH_VALUES = ODD_VALUES + (
+    "none", "folder", "file", (), [], ("",), ("file",), ("none", ""), ("folder", ""), ("none", None), ("file", None),
+    ("file", 1), ("file", b"a"), ("file", ["a"]), ("file", "a", "b"), ("file", "a" * 61), ("file", "\n"),
+    ("file", "\u00e9"), ("file", "a%"), ("file", "\x7f"), ("file", "\t"), ("File", "a"), ("text", "a"), (None,),
+    (["none"],), ("none",) * 3, {"none"}, {"file": "a"},
+)
