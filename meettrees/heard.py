@@ -1,7 +1,7 @@
 """What a machine has heard: events that are closed."""
 
 from meettrees.checks import is_list, is_numbers, is_within
-from meettrees.errors import BadEvent, BadHeard, BadNumber, Misfit, NoChange, NoEvent
+from meettrees.errors import BadEvent, BadHeard, BadNumber, Misfit, NoChange, NoEvent, NoMachine
 from meettrees.events import MOST_COUNT, MOST_MACHINES, Event, is_in_past
 from meettrees.papers import fixed
 
@@ -106,6 +106,12 @@ def check_heard(heard):
     """Raises what any value raises that is told as what is heard."""
     if not isinstance(heard, Heard):
         raise BadHeard("heard")
+
+
+def check_machine(machines, value):
+    """Raises what any value raises that is the number of none of so many machines."""
+    if not is_within(value, 0, machines - 1):
+        raise NoMachine(value)
 
 
 def is_past(heard, one, other):

@@ -185,6 +185,23 @@ class Log:
             raise Nothing()
         self.flush()
 
+    def twin(self, disk):
+        """The same Log on a second disk, which is equal to its own."""
+        log = Log(Disk(disk.many))
+        log.disk = disk
+        log.epoch = self.epoch
+        log.half = self.half
+        log.first = self.first
+        log.rows = self.rows
+        log.behind = self.behind
+        log.stamp = self.stamp
+        log.waiting = self.waiting
+        log.copied = self.copied
+        log.is_turned = self.is_turned
+        log._copy_behind = self._copy_behind
+        log._copy_stamp = self._copy_stamp
+        return log
+
     def _check_room(self, behind, pieces, stamp):
         """Raises what lacks for so many pieces, the last one ahead of the spot behind."""
         if len(self.disk.held) + pieces > MOST_HELD:

@@ -3,6 +3,7 @@
 import itertools
 
 from meettrees.events import Event
+from meettrees.heard import Heard
 
 NONE, FOLDER = ("none",), ("folder",)
 SMALL_PATHS = (("a",), ("a", "x"), ("a", "y"), ("a", "x", "z"), ("b",))
@@ -138,3 +139,23 @@ def tree_told(standing, lot):
     })
     values = {path: value for path, value in told if value != NONE}
     return {**values, **{path: FOLDER for path in fills}}, fills
+
+
+def apart(*changes_of_each):
+    """What is heard of machines each of which made events with some changes, alone."""
+    many = len(changes_of_each)
+    events = []
+    for at, some in enumerate(changes_of_each):
+        for number in range(1, (len(some) + 13) // 14 + 1):
+            past = [number - 1 if place == at else 0 for place in range(many)]
+            events.append(Event(at, number, past, some[14 * number - 14:14 * number]))
+    return Heard(many, events)
+
+
+def greedy(standing):
+    """The shown lot of live changes, as the document tells how it is found."""
+    taken = []
+    for key in standing:
+        if not any(quarrel(standing[key], standing[other]) for other in taken):
+            taken.append(key)
+    return tuple(taken)

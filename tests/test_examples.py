@@ -1,4 +1,7 @@
-"""The examples of the document, as they stand there; names go on from one module to the next."""
+"""The examples of the document, as they stand there; names go on from one module to the next.
+
+Those of letters begin with a line of those of codes: they speak of that event, though the name was given away since.
+"""
 
 import importlib
 import os
@@ -7,7 +10,7 @@ import unittest
 HERE = os.path.dirname(os.path.abspath(__file__))
 MODULES = (
     "errors checks papers blocks disks images records heads logs check_logs codes paths trees plain deed_texts changes "
-    "events heard quarrels settlings"
+    "events heard quarrels settlings fates check_settlings deeds settle machines letters worlds histories pictures desk"
 ).split()
 
 
@@ -55,9 +58,10 @@ class ExampleTest(unittest.TestCase):
         for module, examples in sections():
             for line, told in examples:
                 with self.subTest(module=module, line=line):
-                    self.assertEqual(answered(line, names), told)
+                    # The document writes an error without fields in both ways.
+                    self.assertEqual(answered(line, names), told and told.removesuffix("()"))
                 run += 1
-        self.assertEqual(run, 135)
+        self.assertEqual(run, 239)
 
 
 if __name__ == "__main__":

@@ -30,6 +30,16 @@ FUNCTIONS = {
         "tree_of": "heard lot", "fills": "heard lot", "shown_lot": "heard", "shown": "heard",
         "is_settling": "heard lot", "many_settlings": "heard", "settlings": "heard most",
     },
+    "fates": {"fate": "heard key"},
+    "check_settlings": {"shows_fate": "heard key value"},
+    "deeds": {"unsettled": "heard path", "event_for": "heard machine deed", "is_let": "heard machine deed"},
+    "settle": {"settle_event": "heard machine lot"},
+    "letters": {
+        "hello": "heard sender to", "taken": "heard letter", "answer": "heard letter news", "meeting": "mine its sender to",
+    },
+    "worlds": {"is_step": "value"},
+    "histories": {"history": "world", "lacked": "world machine"},
+    "pictures": {"disk_picture": "disk", "web": "heard"},
 }
 CLASSES = {
     "papers": {"Paper": "word parts", "Denial": "word parts"},
@@ -40,6 +50,11 @@ CLASSES = {
     "trees": {"Tree": "pairs"},
     "events": {"Event": "machine number past changes"},
     "heard": {"Heard": "machines events"},
+    "fates": {"Everywhere": "key", "Disputed": "with_it without", "Overruled": "by"},
+    "machines": {"Machine": "number machines disk"},
+    "letters": {"Letter": "sender to counts events"},
+    "worlds": {"World": "machines blocks"},
+    "desk": {"Desk": "machines blocks"},
 }
 METHODS = {
     ("disks", "Disk"): {"of": "image", "block_at": "self at", "write": "self at block", "flush": "self",
@@ -51,6 +66,14 @@ METHODS = {
     ("events", "Event"): {"__eq__": "self other"},
     ("heard", "Heard"): {"has": "self key", "event": "self key", "with_event": "self event", "joined": "self other",
                          "lacking": "self counts", "__eq__": "self other"},
+    ("letters", "Letter"): {"__eq__": "self other"},
+    ("machines", "Machine"): {
+        "begin": "self deed", "begin_settling": "self lot", "begin_taking": "self letter", "begin_pressing": "self",
+        "turn": "self", "finish": "self", "do": "self deed", "settle": "self lot", "take": "self letter", "press": "self",
+        "hello": "self to", "cut": "self landed", "up": "self",
+    },
+    ("worlds", "World"): {"step": "self step", "run": "self steps", "are_agreed": "self"},
+    ("desk", "Desk"): {"told": "self line", "undo": "self", "twin": "self", "__len__": "self", "__eq__": "self other"},
 }
 
 

@@ -79,12 +79,45 @@ class LanguageTest(unittest.TestCase):
                 self.assertTrue(node.id in BUILTINS or node.id == "ValueError", f"{place} {node.id}")
 
     def test_what_is_not_used(self):
-        for place, _ in nodes((ast.GeneratorExp, ast.Try, ast.Global, ast.AsyncFunctionDef, ast.JoinedStr)):
+        for place, _ in nodes((ast.GeneratorExp, ast.Global, ast.AsyncFunctionDef, ast.JoinedStr)):
             self.fail(place)
         for place, node in nodes(ast.Constant):
             self.assertNotIsInstance(node.value, (float, complex), place)
             if isinstance(node.value, str):
                 self.assertNotIn("%", node.value, place)
+
+    def test_only_own_errors_are_caught_by_name(self):
+        own = {node.name for place, node in nodes(ast.ClassDef) if place.startswith("errors.py")}
+        for place, node in nodes(ast.Try):
+            self.assertFalse(node.finalbody or node.orelse, place)
+            for handler in node.handlers:
+                self.assertIsInstance(handler.type, ast.Name, place)
+                self.assertIn(handler.type.id, own, place)
+
+    def test_what_is_raised_is_made_on_the_spot(self):
+        for place, node in nodes(ast.Raise):
+            self.assertIsInstance(node.exc, ast.Call, place)
+            self.assertIsInstance(node.exc.func, ast.Name, place)
+
+    def test_no_name_is_a_method_and_an_attribute(self):
+        for place, node in nodes(ast.ClassDef):
+            names = {method.name for method in node.body if isinstance(method, ast.FunctionDef)}
+            stored = {
+                part.attr for part in ast.walk(node) if isinstance(part, ast.Attribute) and isinstance(part.ctx, ast.Store)
+            }
+            self.assertFalse(names & stored, place)
+
+    def test_properties_are_named_by_nothing_else(self):
+        properties, others = set(), set()
+        for _, node in nodes(ast.ClassDef):
+            for method in node.body:
+                if isinstance(method, ast.FunctionDef):
+                    told = [mark.id for mark in method.decorator_list]
+                    (properties if told == ["property"] else others).add(method.name)
+        for _, node in nodes(ast.Attribute):
+            if isinstance(node.ctx, ast.Store):
+                others.add(node.attr)
+        self.assertFalse(properties & others)
 
     def test_barred_words(self):
         for place, node in nodes(ast.Name):

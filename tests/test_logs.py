@@ -403,6 +403,25 @@ class TurnTest(unittest.TestCase):
         self.assertEqual(half_of(log.disk.image, 1)[0][0], 8)
 
 
+class TwinTest(unittest.TestCase):
+    def test_a_twin_goes_on_alone(self):
+        log = Log(Disk(16))
+        steps = (
+            lambda one: one.append([1]), lambda one: one.flush(), lambda one: one.copy([[2], [3]]), lambda one: one.turn(),
+            lambda one: one.land(), lambda one: one.append([4]), lambda one: one.flush(), lambda one: one.copy([]),
+            lambda one: one.turn(), lambda one: one.flush(), lambda one: one.append([5]),
+        )
+        for step in steps:
+            disk = copy_of(log.disk)
+            other, before = log.twin(disk), state(log)
+            self.assertIs(other.disk, disk)
+            self.assertEqual(state(other), before)
+            step(other)
+            self.assertEqual(state(log), before)
+            step(log)
+            self.assertEqual(state(log), state(other))
+
+
 class CutTest(unittest.TestCase):
     """A Log at any moment, cut by any lot, and coming up again."""
 

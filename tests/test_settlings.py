@@ -10,7 +10,7 @@ from meettrees.heard import Heard
 from meettrees.quarrels import live, parts, quarrels
 from meettrees.settlings import fills, is_settling, many_settlings, settlings, shown, shown_lot, tree_of
 from meettrees.trees import Tree
-from histories import live_told, lots_told, quarrel, settlings_told, some_history, tree_told
+from histories import apart, greedy, live_told, lots_told, settlings_told, some_history, tree_told
 from tools import ODD_VALUES, listed, raised
 
 NONE, FOLDER, ONE, TWO = ("none",), ("folder",), ("file", "1"), ("file", "2")
@@ -27,26 +27,6 @@ def histories(seed, times=60):
         if len(standing) <= 9:
             times -= 1
             yield Heard(machines, events), standing, dice
-
-
-def apart(*changes_of_each):
-    """What is heard of machines each of which made events with some changes, alone."""
-    many = len(changes_of_each)
-    events = []
-    for at, some in enumerate(changes_of_each):
-        for number in range(1, (len(some) + 13) // 14 + 1):
-            past = [number - 1 if place == at else 0 for place in range(many)]
-            events.append(Event(at, number, past, some[14 * number - 14:14 * number]))
-    return Heard(many, events)
-
-
-def greedy(standing):
-    """The shown lot of live changes, as the document tells how it is found."""
-    taken = []
-    for key in standing:
-        if not any(quarrel(standing[key], standing[other]) for other in taken):
-            taken.append(key)
-    return tuple(taken)
 
 
 class LotTest(unittest.TestCase):

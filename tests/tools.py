@@ -70,3 +70,16 @@ ODD_PATH_VALUES = ODD_VALUES + (
     ("file", "\u00e9"), ("file", "a%"), ("file", "\x7f"), ("file", "\t"), ("File", "a"), ("text", "a"), (None,),
     (["none"],), ("none",) * 3, {"none"}, {"file": "a"},
 )
+# No ids of changes, where nothing is heard of a machine 9, and no machine made more than 8 events, with 13 changes each.
+NO_IDS = ODD_VALUES + (
+    (), (0,), (0, 1), (0, 1, 0, 0), (0, 0, 0), (0, -1, 0), (-1, 1, 0), (0, 1, -1), (0, 1, 13), (0, 9, 0), (9, 1, 0), "010",
+    (True, 1, 0), (0, True, 0), (0, 1, False), (0.0, 1, 0), (0, 1, 0.0), ("0", 1, 0), (None,) * 3, ((0, 1), 0), [[0, 1, 0]],
+    {0, 1}, {(0, 1, 0)}, range(3), (0, 10 ** 999, 0), (0, 1, 10 ** 999), (10 ** 999, 1, 0),
+)
+NO_MACHINES = ODD_VALUES + (9, 10, 0.0, 1.0, (0,), [1], "0")
+ODD_DEEDS = ODD_VALUES + (
+    (), "make", ("make",), ("make", (), ""), ("make", "/a"), ("make", ("A",)), ("drop", ("a",), None), ("write", ("a",)),
+    ("write", ("a",), None), ("write", ("a",), "a" * 61), ("write", ("a",), "%"), ("write", ("a",) * 7, ""), ("move", ("a",)),
+    ("move", ("a",), "b"), ("move", ("a",), ("b",), ("c",)), ("copy", ("a",), ("b",)), (["make"], ("a",)), ("Make", ("a",)),
+    {"make", "a"},
+)
